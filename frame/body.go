@@ -4,6 +4,7 @@ import (
 	"errors"
 
 	"quotaledger/api"
+	"quotaledger/field"
 )
 
 // shape is what requests and replies differ in: the least and the greatest first byte, and the first byte that goes with a second (0: none does).
@@ -41,6 +42,6 @@ func (s shape) body(b []byte) ([]byte, error) {
 	if errors.Is(err, api.ErrShort) || len(b) <= int(b[0]) {
 		return nil, api.ErrShort
 	}
-	end := byteSize + int(b[0])
-	return b[byteSize:end:end], nil
+	end := field.ByteSize + int(b[0])
+	return b[field.ByteSize:end:end], nil
 }

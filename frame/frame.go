@@ -1,7 +1,10 @@
 // Package frame: requests and replies as bytes (P3, P4).
 package frame
 
-import "quotaledger/api"
+import (
+	"quotaledger/api"
+	"quotaledger/field"
+)
 
 // WriteRequest is the request's frame; nil, if there is no such Op.
 func WriteRequest(r api.Request) []byte {
@@ -13,12 +16,10 @@ func WriteRequest(r api.Request) []byte {
 	switch r.Op {
 	case api.Define:
 		b = append(b, r.Key[:]...)
-		b = append(b, r.Policy.Kind)
-		b = appendNumber(b, r.Policy.X)
-		b = appendNumber(b, r.Policy.Y)
+		b = field.AppendPolicy(b, r.Policy)
 	case api.Admit:
 		b = append(b, r.Key[:]...)
-		b = appendNumber(b, r.N)
+		b = field.AppendNumber(b, r.N)
 	case api.Query, api.Delete:
 		b = append(b, r.Key[:]...)
 	}
@@ -31,28 +32,26 @@ func ReadRequest(b []byte) (api.Request, int, error) {
 	if err != nil {
 		return api.Request{}, 0, err
 	}
-	f := fields{left: body}
-	r := api.Request{Op: f.small()}
+	f := field.Of(body)
+	r := api.Request{Op: f.Byte()}
 	switch r.Op {
 	case api.Define:
-		r.Key = f.key()
-		r.Policy.Kind = f.small()
-		r.Policy.X = f.number()
-		r.Policy.Y = f.number()
+		r.Key = f.Key()
+		r.Policy = f.Policy()
 	case api.Admit:
-		r.Key = f.key()
-		r.N = f.number()
+		r.Key = f.Key()
+		r.N = f.Number()
 	case api.Query, api.Delete:
-		r.Key = f.key()
+		r.Key = f.Key()
 	}
-	return r, byteSize + len(body), nil
+	return r, field.ByteSize + len(body), nil
 }
 
 // WriteReply is the reply's frame, whatever its Code.
 func WriteReply(r api.Reply) []byte {
 	b := start(replySize, r.Code)
-	b = appendNumber(b, r.A)
-	return appendNumber(b, r.B)
+	b = field.AppendNumber(b, r.A)
+	return field.AppendNumber(b, r.B)
 }
 
 // ReadReply is the reply whose frame stands at the beginning of b, and how many bytes the frame has.
@@ -61,9 +60,14 @@ func ReadReply(b []byte) (api.Reply, int, error) {
 	if err != nil {
 		return api.Reply{}, 0, err
 	}
-	f := fields{left: body}
-	r := api.Reply{Code: f.small()}
-	r.A = f.number()
-	r.B = f.number()
-	return r, byteSize + len(body), nil
+	f := field.Of(body)
+	r := api.Reply{Code: f.Byte()}
+	r.A = f.Number()
+	r.B = f.Number()
+	return r, field.ByteSize + len(body), nil
+}
+
+// start begins a frame with room for all n bytes that follow its first.
+func start(n int, second uint8) []byte {
+	return append(make([]byte, 0, field.ByteSize+n), uint8(n), second)
 }

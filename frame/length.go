@@ -1,13 +1,11 @@
 package frame
 
-import "quotaledger/api"
-
-const (
-	byteSize   = 1
-	keySize    = len(api.Key{})
-	numberSize = 8
-	replySize  = byteSize + 2*numberSize
+import (
+	"quotaledger/api"
+	"quotaledger/field"
 )
+
+const replySize = field.ByteSize + 2*field.NumberSize
 
 // requestLength tells how many bytes follow the first of a request; 0: there is no such Op.
 // Each request has what the next shorter one has, and some more.
@@ -15,16 +13,16 @@ func requestLength(op uint8) int {
 	n := 0
 	switch op {
 	case api.Define:
-		n += byteSize + numberSize
+		n += field.ByteSize + field.NumberSize
 		fallthrough
 	case api.Admit:
-		n += numberSize
+		n += field.NumberSize
 		fallthrough
 	case api.Query, api.Delete:
-		n += keySize
+		n += field.KeySize
 		fallthrough
 	case api.Snapshot, api.Clock:
-		n += byteSize
+		n += field.ByteSize
 	}
 	return n
 }

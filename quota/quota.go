@@ -1,10 +1,10 @@
-// Package quota: a policy, how a key stands by it, and what is let in (P8 to P11).
+// Package quota: a policy, how a key stands by it, and what is let in (P8 to P11); what is reserved of it ahead (P12, P13).
 package quota
 
 import "quotaledger/api"
 
 // Quota is a policy and how a key stands by it.
-// Its fields are not open to others, so that each that New made is of a policy that there is.
+// Its fields are not open to others, so that each that New or Read made is of a policy that there is.
 type Quota struct {
 	policy api.Policy
 	level  uint64 // Spaced: the time AT; Window: how many were let in
@@ -33,13 +33,14 @@ func sound(p api.Policy) bool {
 type judge struct {
 	turn  func(q Quota, now uint64) Quota
 	admit func(q Quota, now, n uint64) (Quota, api.Reply)
+	ahead func(q Quota, block uint64) Quota
 }
 
-// judges has one for each kind; 0 is no kind, and New lets none above Window in.
+// judges has one for each kind; 0 is no kind, and none above Window comes in.
 func judges() [api.Window + 1]judge {
 	return [...]judge{
-		api.Spaced: {turn: Quota.turnSpaced, admit: Quota.admitSpaced},
-		api.Window: {turn: Quota.turnWindow, admit: Quota.admitWindow},
+		api.Spaced: {turn: Quota.turnSpaced, admit: Quota.admitSpaced, ahead: Quota.aheadSpaced},
+		api.Window: {turn: Quota.turnWindow, admit: Quota.admitWindow, ahead: Quota.aheadWindow},
 	}
 }
 

@@ -39,21 +39,11 @@ type Conn struct {
 
 // Open opens a ledger (P5, P13).
 func Open(d api.Disk, block uint64) (*Server, error) {
-	if err := ask(d); err != nil {
+	b, err := openBook(d, block)
+	if err != nil {
 		return nil, err
 	}
-	return &Server{}, nil
-}
-
-// ask: does the disk answer? One that panics, as one that is nil does, is down to us: no call may panic.
-func ask(d api.Disk) (err error) {
-	defer func() {
-		if recover() != nil {
-			err = api.ErrDown
-		}
-	}()
-	_, err = d.Names()
-	return err
+	return &Server{book: b}, nil
 }
 
 // Connect makes a connection (P6).
@@ -105,8 +95,8 @@ func (s *Server) do(r api.Request) api.Reply {
 	case api.Clock:
 		return s.clock()
 	}
-	// A Snapshot: as long as nothing is written there is nothing to write anew.
-	return api.Reply{Code: api.Done}
+	// No other request comes out of a frame.
+	return s.snapshot()
 }
 
 // count hands a reply on, and counts n if it lets them in.
