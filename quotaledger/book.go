@@ -94,7 +94,13 @@ func (b *book) remove(k api.Key) api.Reply {
 	return reply
 }
 
-func (b *book) snapshot() api.Reply { return b.keep(b.keys, api.Reply{Code: api.Done}) }
+// snapshot writes what is held of the keys, not how they stand: what is reserved stays so.
+func (b *book) snapshot() api.Reply {
+	if err := b.store.Renew(b.time, b.keys.records); err != nil {
+		return api.Reply{Code: api.Unavailable}
+	}
+	return api.Reply{Code: api.Done}
+}
 
 func (b *book) clock() api.Reply { return api.Reply{Code: api.Done, A: b.time} }
 

@@ -1,6 +1,7 @@
 package quotaledger_test
 
 import (
+	"maps"
 	"math/big"
 	"testing"
 
@@ -40,6 +41,7 @@ type checker struct {
 	lives  map[api.Key]*life
 	one    *doubt
 	count  uint64
+	others map[string]string // files of the disk that are no ledger's
 	seen   map[string]int
 }
 
@@ -98,6 +100,10 @@ func (h *checker) ask(now uint64, r api.Request) api.Reply {
 	h.time = max(h.time, now)
 	want, then, needs := h.expect(r)
 	ill, errors := h.disk.errors > 0, h.disk.errors
+	var files map[string]string
+	if r.Op == api.Snapshot {
+		files = maps.Clone(h.disk.durable)
+	}
 	got := h.send(now, r)
 	switch {
 	case h.disk.late > 0:
@@ -120,8 +126,34 @@ func (h *checker) ask(now uint64, r api.Request) api.Reply {
 	case needs && ill:
 		h.seen["covered"]++
 	}
+	if r.Op == api.Snapshot {
+		h.anew(files)
+	}
 	h.turn(r, got, then)
 	return got
+}
+
+// anew: behind a Snapshot that is Done, is all written anew, and is what was written ahead of it gone, durably?
+func (h *checker) anew(was map[string]string) {
+	h.t.Helper()
+	if len(h.disk.pending) > 0 {
+		h.t.Fatalf("P12: Done of a Snapshot that is not durable: %+v", h.disk.pending)
+	}
+	for name, data := range h.disk.durable {
+		if h.others[name] != "" {
+			continue
+		}
+		if data == was[name] {
+			h.t.Fatalf("P15: behind a Snapshot the file %s is there as it was", name)
+		}
+		if len(data) > 1000 {
+			h.t.Fatalf("P15: behind a Snapshot the file %s has %d bytes", name, len(data))
+		}
+	}
+	if n := len(h.disk.durable) - len(h.others); n != 1 {
+		h.t.Fatalf("P15: behind a Snapshot there are %d files", n)
+	}
+	h.seen["snapshot"]++
 }
 
 // turn: the request was done.

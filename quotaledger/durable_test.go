@@ -14,10 +14,14 @@ var errOdd = errors.New("of no number")
 
 func key(i byte) api.Key { return api.Key{'k', 7: i} }
 
-// faults are all ways in which a disk fails at one of two calls.
-func faults() []fault {
+// faults are all ways in which a disk fails at one of the calls that write of a request.
+func faults(r api.Request) []fault {
+	calls := 2
+	if r.Op == api.Snapshot {
+		calls = 4
+	}
 	var l []fault
-	for at := range 2 {
+	for at := range calls {
 		for _, says := range []error{api.ErrFull, api.ErrDown, errOdd} {
 			for _, f := range []fault{{done: false, stays: false}, {done: true, stays: false}, {done: false, stays: true}, {done: true, stays: true}} {
 				l = append(l, fault{at: at, says: says, done: f.done, stays: f.stays})
@@ -67,7 +71,7 @@ func TestAFallAtEachCall(t *testing.T) {
 	seen := map[string]int{}
 	for _, block := range []uint64{0, 5, api.Never} {
 		for at, s := range story() {
-			for _, f := range faults() {
+			for _, f := range faults(s.r) {
 				for _, keeps := range []int{-1, 0, 1, 8, 9, 17, 25, 66, 67, 1 << 20} {
 					h := newChecker(t, block)
 					h.seen = seen
@@ -113,8 +117,8 @@ func TestEachBeginning(t *testing.T) {
 
 // TestBehindAnError: nothing turns, all that would need the disk is Unavailable, all else is as ever, until the ledger is opened anew.
 func TestBehindAnError(t *testing.T) {
-	for _, f := range faults() {
-		for _, r := range []api.Request{define(key(2), window(1, 1)), remove(key(0)), snapshot, admit(key(0), 3), admit(key(1), 6)} {
+	for _, r := range []api.Request{define(key(2), window(1, 1)), remove(key(0)), snapshot, admit(key(0), 3), admit(key(1), 6)} {
+		for _, f := range faults(r) {
 			h := newChecker(t, 5)
 			h.ask(100, define(key(0), spaced(10, 40)))
 			h.ask(100, define(key(1), window(20, 100)))
@@ -129,7 +133,7 @@ func TestBehindAnError(t *testing.T) {
 				{now: 101, r: admit(key(0), 0)}, {now: 101, r: admit(key(1), 0)}, {now: 101, r: admit(key(1), 21)}, {now: 101, r: query(key(2))},
 				{now: 101, r: define(key(0), spaced(1, 1))}, {now: 101, r: define(key(2), spaced(0, 1))}, {now: 101, r: remove(key(3))},
 			})
-			for _, r := range []api.Request{define(key(4), spaced(1, 1)), remove(key(1)), snapshot, admit(key(0), 2)} {
+			for _, r := range []api.Request{snapshot, define(key(4), spaced(1, 1)), remove(key(1)), snapshot, admit(key(0), 2)} {
 				if got := h.ask(102, r); got != code(api.Unavailable) {
 					t.Errorf("P12: behind an error %+v: %+v", r, got)
 				}
@@ -138,6 +142,7 @@ func TestBehindAnError(t *testing.T) {
 			h.open()
 			h.twice()
 			h.ask(103, define(key(5), spaced(1, 1)))
+			h.ask(103, snapshot)
 		}
 	}
 }
@@ -201,7 +206,7 @@ func TestLeftWithoutAFall(t *testing.T) {
 // TestOpenFails: at each of its calls that write, again and again; nothing is lost by that.
 func TestOpenFails(t *testing.T) {
 	failed := 0
-	for _, f := range faults() {
+	for _, f := range faults(clock) {
 		for _, keeps := range []func(int, int) int{lost, kept, func(i, bytes int) int { return bytes / 2 }} {
 			for _, at := range []int{0, 1} {
 				h := newChecker(t, 5)
@@ -389,17 +394,17 @@ func TestTheSameIsWrittenForTheSameRequests(t *testing.T) {
 // TestOtherFilesOfADisk: they are no ledger's, and stay as they are.
 func TestOtherFilesOfADisk(t *testing.T) {
 	h := newChecker(t, 3)
-	for _, name := range []string{"", "a", "ledger", "zz"} {
-		h.disk.durable[name] = "not a ledger's"
-	}
+	h.others = map[string]string{"": "not a ledger's", "a": "nor this", "ledger": "nor this", "ledger.2": "nor this", "zz": "nor this"}
+	maps.Copy(h.disk.durable, h.others)
 	h.disk.fall(lost)
 	h.open()
 	tell(h, story())
+	h.ask(900, snapshot)
 	h.disk.fall(lost)
 	h.open()
-	for _, name := range []string{"", "a", "ledger", "zz"} {
-		if h.disk.durable[name] != "not a ledger's" {
-			t.Errorf("%q is %q", name, h.disk.durable[name])
+	for name, data := range h.others {
+		if h.disk.durable[name] != data {
+			t.Errorf("%q is %q, was %q", name, h.disk.durable[name], data)
 		}
 	}
 }
@@ -441,7 +446,7 @@ func TestAnyFalls(t *testing.T) {
 		}
 		h.checkAll()
 	}
-	for _, what := range []string{"unavailable", "covered", "one define", "one delete", "one admit", "further on", "not opened"} {
+	for _, what := range []string{"unavailable", "covered", "one define", "one delete", "one admit", "further on", "not opened", "snapshot"} {
 		if seen[what] < 100 {
 			t.Errorf("the draws ask too little: %s: %d", what, seen[what])
 		}
@@ -469,7 +474,7 @@ func anyFall(g *rand.Rand, h *checker) {
 }
 
 func anyFault(g *rand.Rand) fault {
-	return fault{at: g.Intn(3), says: []error{api.ErrFull, api.ErrDown, errOdd}[g.Intn(3)], done: g.Intn(2) == 0, stays: g.Intn(2) == 0}
+	return fault{at: g.Intn(5), says: []error{api.ErrFull, api.ErrDown, errOdd}[g.Intn(3)], done: g.Intn(2) == 0, stays: g.Intn(2) == 0}
 }
 
 func anyTime(g *rand.Rand, now uint64) uint64 {

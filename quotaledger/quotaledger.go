@@ -108,7 +108,22 @@ func (s *Server) count(n uint64, reply api.Reply) api.Reply {
 }
 
 // Crowd feeds each stream by a connection of its own, all at the same time (P17).
-func Crowd(s *Server, now uint64, streams [][]byte) [][]byte { return nil }
+func Crowd(s *Server, now uint64, streams [][]byte) [][]byte {
+	if len(streams) == 0 {
+		return nil
+	}
+	replies := make([][]byte, len(streams))
+	var all sync.WaitGroup
+	for i, b := range streams {
+		all.Add(1)
+		go func() {
+			defer all.Done()
+			replies[i] = s.Connect().Feed(now, b)
+		}()
+	}
+	all.Wait()
+	return replies
+}
 
 // Admitted tells how many were let in since the ledger was opened (P16).
 func (s *Server) Admitted() uint64 {

@@ -1,7 +1,9 @@
-// Package store: images of a ledger on a disk, so that the last one that was made durable is there behind any fall (P12, P13).
+// Package store: images of a ledger on a disk, so that the last one that was made durable is there behind any fall (P12, P13, P15).
 package store
 
 import (
+	"slices"
+
 	"quotaledger/api"
 	"quotaledger/image"
 	"quotaledger/sum"
@@ -32,21 +34,48 @@ func Open(d api.Disk) (*Store, image.Image, error) {
 
 // Keep makes durable an image of these records; an error: it may be durable or not, and nothing is written from then on.
 func (s *Store) Keep(time uint64, records func(tell func(image.Record))) error {
+	return s.ask(func() error { return s.write(time, records) })
+}
+
+// Renew makes durable an image of these records too, and what was written ahead of it goes.
+func (s *Store) Renew(time uint64, records func(tell func(image.Record))) error {
+	return s.ask(func() error {
+		if err := s.write(time, records); err != nil {
+			return err
+		}
+		return s.sweep()
+	})
+}
+
+// ask: behind its first error the disk is asked for nothing more.
+func (s *Store) ask(job func() error) error {
 	if s == nil {
 		// That of a ledger that nobody opened.
 		return api.ErrDown
 	}
-	if s.err != nil {
-		return s.err
+	if s.err == nil {
+		s.err = guard(job)
 	}
-	s.turn++
-	b := image.Write(&s.sums, s.turn, time, records)
-	s.err = guard(func() error { return s.write(name(s.turn), b) })
 	return s.err
 }
 
-func (s *Store) write(name string, b []byte) error {
-	if err := s.disk.Write(name, b); err != nil {
+func (s *Store) write(time uint64, records func(tell func(image.Record))) error {
+	s.turn++
+	b := image.Write(&s.sums, s.turn, time, records)
+	if err := s.disk.Write(name(s.turn), b); err != nil {
+		return err
+	}
+	return s.disk.Sync()
+}
+
+// sweep: the file of the turn ahead goes. That is not done until the last image is durable: a fall could take both else.
+func (s *Store) sweep() error {
+	older := name(s.turn - 1)
+	names, err := s.disk.Names()
+	if err != nil || !slices.Contains(names, older) {
+		return err
+	}
+	if err := s.disk.Remove(older); err != nil {
 		return err
 	}
 	return s.disk.Sync()

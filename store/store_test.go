@@ -52,7 +52,16 @@ func (d *logDisk) Write(name string, data []byte) error {
 
 func (d *logDisk) Append(name string, data []byte) error { return d.call("append " + name) }
 
-func (d *logDisk) Remove(name string) error { return d.call("remove " + name) }
+func (d *logDisk) Remove(name string) error {
+	if err := d.call("remove " + name); err != nil {
+		return err
+	}
+	if _, ok := d.files[name]; !ok {
+		return api.ErrNone
+	}
+	delete(d.files, name)
+	return nil
+}
 
 func (d *logDisk) Names() ([]string, error) {
 	if err := d.call("names"); err != nil {
@@ -78,6 +87,13 @@ func keep(t *testing.T, s *Store, time uint64) {
 	t.Helper()
 	if err := s.Keep(time, none); err != nil {
 		t.Fatalf("P12: Keep = %v", err)
+	}
+}
+
+func renew(t *testing.T, s *Store, time uint64) {
+	t.Helper()
+	if err := s.Renew(time, none); err != nil {
+		t.Fatalf("P15: Renew = %v", err)
 	}
 }
 
@@ -137,6 +153,7 @@ func TestOtherFilesAreLeftAlone(t *testing.T) {
 	}
 	d.wantLog(t, "other files", "names")
 	keep(t, s, 1)
+	renew(t, s, 2)
 	if string(d.files["ledger"]) != "mine" || string(d.files["ledger.2"]) != "mine" || len(d.files) != 3 {
 		t.Errorf("other files are now %q", d.files)
 	}
@@ -163,41 +180,104 @@ func TestFilesThatAreNoImages(t *testing.T) {
 }
 
 func TestTurnsWrapAround(t *testing.T) {
-	d := newDisk()
-	s, _ := open(t, d)
-	s.turn = api.Never - 2
-	for time := range uint64(5) {
-		keep(t, s, time)
-		var i image.Image
-		if s, i = open(t, d); i.Time != time {
-			t.Errorf("P13: at turn %d the last image is %+v, want that of the time %d", s.turn, i, time)
+	for _, write := range []func(*testing.T, *Store, uint64){keep, renew} {
+		d := newDisk()
+		s, _ := open(t, d)
+		s.turn = api.Never - 2
+		for time := range uint64(5) {
+			write(t, s, time)
+			var i image.Image
+			if s, i = open(t, d); i.Time != time {
+				t.Errorf("P13: at turn %d the last image is %+v, want that of the time %d", s.turn, i, time)
+			}
+		}
+		if s.turn != 2 {
+			t.Errorf("five turns behind NEVER - 2 is %d", s.turn)
 		}
 	}
-	if s.turn != 2 {
-		t.Errorf("five turns behind NEVER - 2 is %d", s.turn)
+}
+
+// TestRenewRemovesTheOlderFile: behind the Sync of the new image, and the removal is made durable too; if there is none, nothing is removed.
+func TestRenewRemovesTheOlderFile(t *testing.T) {
+	d := newDisk()
+	s, _ := open(t, d)
+	d.log = nil
+	renew(t, s, 5)
+	d.wantLog(t, "P15: over an empty disk", "write ledger.1", "sync", "names")
+	renew(t, s, 6)
+	d.wantLog(t, "P15: behind another", "write ledger.0", "sync", "names", "remove ledger.1", "sync")
+	keep(t, s, 7)
+	keep(t, s, 8)
+	d.log = nil
+	renew(t, s, 9)
+	d.wantLog(t, "P15: behind two images", "write ledger.1", "sync", "names", "remove ledger.0", "sync")
+	s, i := open(t, d)
+	if i.Time != 9 || len(d.files) != 1 {
+		t.Errorf("P15: the last image is %+v, and there are the files %q", i, slices.Sorted(maps.Keys(d.files)))
+	}
+	d.log = nil
+	keep(t, s, 10)
+	d.wantLog(t, "P13: the one that there is is not written over", "write ledger.0", "sync")
+}
+
+// TestRenewOverFilesThatAreTorn: they go as well.
+func TestRenewOverFilesThatAreTorn(t *testing.T) {
+	for _, files := range [][]string{{"ledger.0"}, {"ledger.1"}, {"ledger.0", "ledger.1"}} {
+		d := newDisk()
+		for _, name := range files {
+			d.files[name] = []byte("torn")
+		}
+		s, _ := open(t, d)
+		renew(t, s, 5)
+		if len(d.files) != 1 {
+			t.Errorf("P15: over %q torn there are the files %q", files, d.files)
+		}
+		if _, i := open(t, d); i.Time != 5 {
+			t.Errorf("P15: over %q torn the last image is %+v", files, i)
+		}
+	}
+}
+
+// wantFailure: the disk fails at one call of the job: that is told, and nothing is written behind it.
+func wantFailure(t *testing.T, at int, panics bool, job func(*Store) error) {
+	t.Helper()
+	d := newDisk()
+	s, _ := open(t, d)
+	keep(t, s, 4)
+	keep(t, s, 5)
+	says := errors.New("of no number")
+	d.log, d.at, d.says, d.panics = nil, at, says, panics
+	want := says
+	if panics {
+		want = api.ErrDown
+	}
+	if err := job(s); err != want {
+		t.Errorf("P12: over a disk that fails at call %d: %v, want %v", at, err, want)
+	}
+	for range 2 {
+		if err := s.Keep(7, none); err != want {
+			t.Errorf("P12: Keep behind an error at call %d = %v, want %v", at, err, want)
+		}
+		if err := s.Renew(7, none); err != want {
+			t.Errorf("P12: Renew behind an error at call %d = %v, want %v", at, err, want)
+		}
+	}
+	if len(d.log) != at+1 {
+		t.Errorf("P12: behind an error at call %d the disk was asked: %s", at, strings.Join(d.log[at+1:], ", "))
+	}
+	d.at = -1
+	if _, i := open(t, d); i.Time != 5 && i.Time != 6 {
+		t.Errorf("P13: behind an error at call %d the last image is %+v", at, i)
 	}
 }
 
 func TestBehindAnErrorNothingIsWritten(t *testing.T) {
-	says := errors.New("of no number")
-	for at := range 2 {
-		for _, panics := range []bool{false, true} {
-			d := newDisk()
-			s, _ := open(t, d)
-			keep(t, s, 5)
-			d.log, d.at, d.says, d.panics = nil, at, says, panics
-			want := says
-			if panics {
-				want = api.ErrDown
-			}
-			for range 3 {
-				if err := s.Keep(6, none); err != want {
-					t.Errorf("P12: Keep over a disk that fails at call %d = %v, want %v", at, err, want)
-				}
-			}
-			if len(d.log) != at+1 {
-				t.Errorf("P12: behind an error the disk was asked: %s", strings.Join(d.log[at+1:], ", "))
-			}
+	for _, panics := range []bool{false, true} {
+		for at := range 2 {
+			wantFailure(t, at, panics, func(s *Store) error { return s.Keep(6, none) })
+		}
+		for at := range 5 {
+			wantFailure(t, at, panics, func(s *Store) error { return s.Renew(6, none) })
 		}
 	}
 }
@@ -229,5 +309,8 @@ func TestAStoreThatNobodyOpened(t *testing.T) {
 	var s *Store
 	if err := s.Keep(1, none); err != api.ErrDown {
 		t.Errorf("P1: Keep without a disk = %v", err)
+	}
+	if err := s.Renew(1, none); err != api.ErrDown {
+		t.Errorf("P1: Renew without a disk = %v", err)
 	}
 }
